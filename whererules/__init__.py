@@ -1,0 +1,1 @@
+"""Whererules: rules that hold for some rows of a table."""
