@@ -1,0 +1,144 @@
+"""The first paragraphs of the interface: wrong arguments; and point 2: unchanged ones, equal results, new lists."""
+
+import random
+import unittest
+
+from whererules.breaks import breaks, count_tree, fewest_out, holds, is_count_tree
+from whererules.columns import is_columns, is_row, is_table
+from whererules.following import against, follows, is_tree, tree
+from whererules.peace import is_war, peaceful_row, war
+from whererules.rules import is_rule, is_rules, matches
+from whererules.splits import is_enough, is_stuck, least_sets, settles, stuck
+
+import oracle
+from samples import left_alone, made_columns, made_rule, made_rules, made_row, made_table, renewed, same
+from wrong import COLUMNS, RIGHT, WRONG, check_any_wrong, check_first_wrong
+
+FUNCTIONS = [
+    (is_columns, ["value"]),
+    (is_row, ["columns", "value"]),
+    (is_table, ["columns", "value"]),
+    (is_rule, ["columns", "value"]),
+    (is_rules, ["columns", "value"]),
+    (matches, ["columns", "rule", "row"]),
+    (breaks, ["columns", "rules", "table"]),
+    (holds, ["columns", "rule", "table"]),
+    (fewest_out, ["columns", "rules", "table"]),
+    (count_tree, ["columns", "rules", "table"]),
+    (is_count_tree, ["columns", "rules", "table", "number", "value"]),
+    (peaceful_row, ["columns", "rules"]),
+    (war, ["columns", "rules"]),
+    (is_war, ["columns", "rules", "value"]),
+    (follows, ["columns", "rules", "rule"]),
+    (tree, ["columns", "rules", "rule"]),
+    (against, ["columns", "rules", "rule"]),
+    (is_tree, ["columns", "rules", "rule", "value"]),
+    (is_enough, ["columns", "rules", "rule", "cells"]),
+    (stuck, ["columns", "rules", "rule", "cells"]),
+    (is_stuck, ["columns", "rules", "rule", "cells", "value"]),
+    (least_sets, ["columns", "rules", "rule"]),
+    (settles, ["columns", "rules", "given"]),
+]
+
+
+def is_right(name, value):
+    """Whether the value is right as the argument of this name, for COLUMNS and the right rule."""
+    if name == "columns":
+        return oracle.right_columns(value)
+    if name == "number":
+        return oracle.integer(value) and 1 <= value <= 8
+    if name == "cells":
+        return any(same(value, cells) for cells in oracle.subsets(oracle.closed_cells(COLUMNS, RIGHT["rule"])))
+    judges = {"rules": oracle.right_rules, "rule": oracle.right_rule, "row": oracle.right_row,
+              "table": oracle.right_table, "given": oracle.right_given}
+    return judges[name](COLUMNS, value)
+
+
+def made_arguments(dice, seed, names):
+    """Right arguments of these names."""
+    columns = made_columns(seed, 3)
+    rule = made_rule(dice, columns)
+    made = {
+        "columns": columns, "rules": made_rules(dice, columns, 4), "rule": rule, "row": made_row(dice, columns),
+        "table": made_table(dice, columns, 5), "number": dice.randint(1, 8),
+        "given": made_rule(dice, columns)[0], "cells": dice.choice(oracle.subsets(oracle.closed_cells(columns, rule))),
+        "value": dice.choice([("clash",), ("goal",), ("step", 0, 0, ("goal",)), (), rule, columns, [(0, 1)]]),
+    }
+    return [made[name] for name in names]
+
+
+class WrongArguments(unittest.TestCase):
+    def test_the_wrong_ones_are_wrong(self):
+        for name in WRONG:
+            self.assertTrue(is_right(name, RIGHT[name]), name)
+            for value in WRONG[name][1]:
+                self.assertFalse(is_right(name, value), (name, value))
+
+    def test_first_wrong(self):
+        for function, names in FUNCTIONS:
+            with self.subTest(function=function.__name__):
+                check_first_wrong(self, function, names)
+
+    def test_any_wrong(self):
+        for function, names in FUNCTIONS:
+            with self.subTest(function=function.__name__):
+                check_any_wrong(self, function, names, is_right)
+
+    def test_arguments_are_checked_for_the_columns(self):
+        rules, table = (((), 1, 5),), ((0, 5),)
+        self.assertEqual(breaks((None, None), rules, table), [])
+        self.assertEqual(breaks((None, (4, 5)), rules, table), [])
+        with self.assertRaises(WRONG["rules"][0]):
+            breaks((None, (4,)), rules, table)
+        with self.assertRaises(WRONG["table"][0]):
+            breaks((None, (4,)), (), table)
+
+
+class Unchanged(unittest.TestCase):
+    def test_right_arguments(self):
+        for function, names in FUNCTIONS:
+            for seed in range(25):
+                arguments = made_arguments(random.Random(seed), seed, names)
+                told, unchanged = left_alone(function, arguments)
+                self.assertTrue(unchanged, function)
+                self.assertNotIsInstance(told, Exception)
+
+    def test_wrong_arguments(self):
+        for function, names in FUNCTIONS:
+            for place, name in enumerate(names):
+                for value in WRONG.get(name, (None, [[0], [(0, [1])], ("split", 0, 1, [("clash",)])]))[1]:
+                    arguments = [RIGHT[other] for other in names]
+                    arguments[place] = value
+                    self.assertTrue(left_alone(function, arguments)[1], function)
+
+
+class EqualResults(unittest.TestCase):
+    def test_equal_arguments(self):
+        for function, names in FUNCTIONS:
+            for seed in range(40):
+                arguments = made_arguments(random.Random(seed), seed, names)
+                self.assertTrue(same(function(*arguments), function(*renewed(arguments))), function)
+
+    def test_results_in_between_change_nothing(self):
+        made = []
+        for function, names in FUNCTIONS:
+            for seed in range(10):
+                arguments = made_arguments(random.Random(seed), seed, names)
+                made.append((function, arguments, repr(function(*arguments))))
+        for function, arguments, told in reversed(made):
+            self.assertEqual(repr(function(*arguments)), told)
+
+    def test_lists_are_new(self):
+        listing = [(breaks, ["columns", "rules", "table"]), (least_sets, ["columns", "rules", "rule"])]
+        for function, names in listing:
+            for seed in range(40):
+                arguments = made_arguments(random.Random(seed), seed, names)
+                first, second = function(*arguments), function(*arguments)
+                self.assertIs(first.__class__, list)
+                self.assertIsNot(first, second)
+                first.append("more")
+                self.assertEqual(second, function(*arguments))
+
+
+if __name__ == "__main__":
+    unittest.main()

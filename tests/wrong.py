@@ -1,0 +1,80 @@
+"""Wrong arguments, alone and together."""
+
+from itertools import combinations
+
+from whererules.errors import (
+    InvalidCells, InvalidColumns, InvalidGiven, InvalidNumber, InvalidRow, InvalidRule, InvalidRules, InvalidTable)
+
+from samples import BIG, any_values
+
+# All for the columns (None, (0, 1), None).
+COLUMNS = (None, (0, 1), None)
+WRONG = {
+    "columns": (InvalidColumns, [
+        None, True, 0, "", (), [], [None, (0, 1), None], (None, [0, 1], None), (None, (1, 0), None), (None,) * 5,
+        ((0,), (0,), (0,)), (None, (0, True), None), (None, (), None), (None, (-1, 0), None)]),
+    "rules": (InvalidRules, [
+        None, True, 0, "", [], [((), 0, 0)], (((), 0, 0),) * 9, ((), 0, 0), (((), 3, 0),), (((), 1, 2),),
+        (((), 0, 0), [(), 0, 0]), (((), 0, True),), ((((0, None),), 1, 0),), (None,)]),
+    "rule": (InvalidRule, [
+        None, True, 0, "", (), [(), 0, 0], ([], 0, 0), ((), 3, 0), ((), -1, None), ((), 1, 2), ((), True, None),
+        ((), 0, False), (((0, None),), 1, 0), (((0, 1),), 0, None), (((2, 0), (0, 0)), 1, None), ((), 0)]),
+    "row": (InvalidRow, [
+        None, True, 0, "", (), [0, 0, 0], (0, 0), (0, 2, 0), (0, True, 0), (-1, 0, 0), ((0, 0, 0),), (0, None, 0)]),
+    "table": (InvalidTable, [
+        None, True, 0, "", [], [(0, 0, 0)], ((0, 0, 0),) * 9, (0, 0, 0), ((0, 0),), ((0, 0, 0), [0, 0, 0]),
+        ((0, 2, 0),), ((0, False, 0),), ((0, 0, -1),), (None,)]),
+    "number": (InvalidNumber, [None, True, False, 0, 9, -1, BIG, "1", "", (1,), [1], ()]),
+    "given": (InvalidGiven, [
+        None, True, 0, "", [], [(0, 1)], ([0, 1],), ((3, 0),), ((-1, 0),), ((1, 2),), ((0, 1), (0, 1)),
+        ((2, None), (0, None)), ((True, 1),), ((0, False),), ((0,),), ((0, 1, 1),), (0, 1), (None,), ((0, "1"),)]),
+    # For a pair rule.
+    "cells": (InvalidCells, [
+        None, True, 0, "", [], [(0, 1)], ([0, 1],), ((0, 0),), ((0, 2),), ((2, 1),), ((-1, 1),), ((0, 1), (0, 1)),
+        ((1, 1), (0, 1)), ((False, 1),), ((0, True),), ((0, 1), (True, 1)), ((0, 1), (0, 2)), (0, 1), ((0,),),
+        ((0, 1, 1),), (None,), ((0, -1),), ((0, 1), (1, 1), (1, 1)), ((0, None),), (("0", 1),), ((0, 3),)]),
+}
+RIGHT = {
+    "columns": COLUMNS,
+    "rules": ((((0, 1),), 1, 0), (((1, None),), 2, None)),
+    "rule": (((0, None),), 2, None),
+    "row": (1, 0, 1),
+    "table": ((1, 1, 0), (1, 0, 1)),
+    "number": 1,
+    "given": ((0, 1), (1, None)),
+    "cells": ((0, 1), (1, 1)),
+    "value": ("clash",),
+}
+
+
+def check_first_wrong(test, function, names):
+    """Asserts that the function raises just the error of the first wrong argument, alone or with others."""
+    right = [RIGHT[name] for name in names]
+    function(*right)
+    places = [place for place, name in enumerate(names) if name in WRONG]
+    for many in range(1, len(places) + 1):
+        for chosen in combinations(places, many):
+            error, bad = WRONG[names[chosen[0]]]
+            for value in bad:
+                arguments = list(right)
+                for place in chosen:
+                    arguments[place] = WRONG[names[place]][1][many]
+                arguments[chosen[0]] = value
+                assert_raises(test, error, function, arguments)
+
+
+def check_any_wrong(test, function, names, is_right):
+    """Asserts that the function raises the error of an argument that is any wrong value."""
+    for place, name in enumerate(names):
+        for value in any_values():
+            if name in WRONG and not is_right(name, value):
+                arguments = [RIGHT[other] for other in names]
+                arguments[place] = value
+                assert_raises(test, WRONG[name][0], function, arguments)
+
+
+def assert_raises(test, error, function, arguments):
+    """Asserts that the function raises just this error, and no other one derived from it."""
+    with test.assertRaises(error, msg=(function, arguments)) as caught:
+        function(*arguments)
+    test.assertIs(caught.exception.__class__, error)
