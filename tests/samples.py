@@ -135,3 +135,13 @@ def made_row(dice, columns):
 def made_table(dice, columns, most):
     """A table of the columns, with at most so many rows."""
     return tuple([made_row(dice, columns) for _ in range(dice.randint(0, most))])
+
+
+def made_view(dice, columns, most=3):
+    """A view of the columns."""
+    many = dice.randint(1, len(columns))
+    branches = []
+    for _ in range(dice.randint(1, most)):
+        chosen = [(column, made_value(dice, columns, column)) for column in range(len(columns)) if dice.random() < 0.3]
+        branches.append((tuple(chosen), tuple(dice.sample(range(len(columns)), many))))
+    return tuple(branches)

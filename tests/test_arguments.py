@@ -5,13 +5,18 @@ import unittest
 
 from whererules.breaks import breaks, count_tree, fewest_out, holds, is_count_tree
 from whererules.columns import is_columns, is_row, is_table
+from whererules.covers import cover, is_cover, more_general, needless
+from whererules.finding import found_rules
 from whererules.following import against, follows, is_tree, tree
 from whererules.peace import is_war, peaceful_row, war
 from whererules.rules import is_rule, is_rules, matches
 from whererules.splits import is_enough, is_stuck, least_sets, settles, stuck
+from whererules.views import is_view, view_against, view_follows, view_rows, view_trees
 
 import oracle
-from samples import left_alone, made_columns, made_rule, made_rules, made_row, made_table, renewed, same
+import oracle_views
+from samples import (
+    left_alone, made_columns, made_rule, made_rules, made_row, made_table, made_view, renewed, same)
 from wrong import COLUMNS, RIGHT, WRONG, check_any_wrong, check_first_wrong
 
 FUNCTIONS = [
@@ -38,7 +43,18 @@ FUNCTIONS = [
     (is_stuck, ["columns", "rules", "rule", "cells", "value"]),
     (least_sets, ["columns", "rules", "rule"]),
     (settles, ["columns", "rules", "given"]),
+    (more_general, ["columns", "rule", "other_rule"]),
+    (needless, ["columns", "rules"]),
+    (cover, ["columns", "peaceful"]),
+    (is_cover, ["columns", "peaceful", "value"]),
+    (found_rules, ["columns", "table", "number"]),
+    (is_view, ["columns", "value"]),
+    (view_rows, ["columns", "view", "table"]),
+    (view_follows, ["columns", "rules", "view", "view_rule"]),
+    (view_trees, ["columns", "rules", "view", "view_rule"]),
+    (view_against, ["columns", "rules", "view", "view_rule"]),
 ]
+LISTS = [breaks, least_sets, needless, found_rules, view_trees]
 
 
 def is_right(name, value):
@@ -49,16 +65,31 @@ def is_right(name, value):
         return oracle.integer(value) and 1 <= value <= 8
     if name == "cells":
         return any(same(value, cells) for cells in oracle.subsets(oracle.closed_cells(COLUMNS, RIGHT["rule"])))
-    judges = {"rules": oracle.right_rules, "rule": oracle.right_rule, "row": oracle.right_row,
-              "table": oracle.right_table, "given": oracle.right_given}
+    judges = {
+        "rules": oracle.right_rules, "peaceful": oracle.right_rules, "rule": oracle.right_rule,
+        "other_rule": oracle.right_rule, "row": oracle.right_row, "table": oracle.right_table,
+        "given": oracle.right_given, "view": oracle_views.right_view}
+    if name == "view_rule":
+        return oracle_views.right_view_rule(RIGHT["view"], value)
     return judges[name](COLUMNS, value)
+
+
+def made_peaceful(dice, columns):
+    """Rules that are at peace."""
+    rules = ()
+    for rule in made_rules(dice, columns, 4):
+        if oracle.kept_by_a_row(columns, rules + (rule,)):
+            rules += (rule,)
+    return rules
 
 
 def made_arguments(dice, seed, names):
     """Right arguments of these names."""
     columns = made_columns(seed, 3)
-    rule = made_rule(dice, columns)
+    rule, view = made_rule(dice, columns), made_view(dice, columns)
     made = {
+        "view": view, "view_rule": made_rule(dice, (None,) * len(view[0][1])), "other_rule": made_rule(dice, columns),
+        "peaceful": made_peaceful(dice, columns),
         "columns": columns, "rules": made_rules(dice, columns, 4), "rule": rule, "row": made_row(dice, columns),
         "table": made_table(dice, columns, 5), "number": dice.randint(1, 8),
         "given": made_rule(dice, columns)[0], "cells": dice.choice(oracle.subsets(oracle.closed_cells(columns, rule))),
@@ -129,15 +160,19 @@ class EqualResults(unittest.TestCase):
             self.assertEqual(repr(function(*arguments)), told)
 
     def test_lists_are_new(self):
-        listing = [(breaks, ["columns", "rules", "table"]), (least_sets, ["columns", "rules", "rule"])]
-        for function, names in listing:
+        several = dict.fromkeys(LISTS, 0)
+        for function, names in FUNCTIONS:
             for seed in range(40):
                 arguments = made_arguments(random.Random(seed), seed, names)
                 first, second = function(*arguments), function(*arguments)
-                self.assertIs(first.__class__, list)
-                self.assertIsNot(first, second)
-                first.append("more")
-                self.assertEqual(second, function(*arguments))
+                self.assertFalse(isinstance(first, list) and function not in LISTS)
+                if function in LISTS and first is not None:
+                    self.assertIs(first.__class__, list)
+                    self.assertIsNot(first, second)
+                    first.append("more")
+                    self.assertEqual(second, function(*arguments))
+                    several[function] += len(second) > 0
+        self.assertTrue(all(many > 3 for many in several.values()), several)
 
 
 if __name__ == "__main__":

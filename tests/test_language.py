@@ -10,7 +10,7 @@ FILES = sorted(FOLDER.glob("*.py"))
 LIBRARY = {"itertools": {"combinations", "permutations", "product"}, "math": {"gcd", "lcm", "isqrt", "comb"}}
 BUILTINS = {
     "len", "range", "enumerate", "zip", "min", "max", "sum", "abs", "sorted", "reversed", "int", "str", "bool", "list",
-    "tuple", "dict", "isinstance", "any", "all", "divmod", "super", "ValueError"}
+    "tuple", "dict", "isinstance", "any", "all", "divmod", "super", "property", "ValueError"}
 BARRED_WORDS = {
     "type", "typing", "typing_extensions", "enum", "Enum", "IntEnum", "StrEnum", "Flag", "IntFlag", "Generic",
     "Protocol", "ABC", "ABCMeta", "namedtuple", "NamedTuple", "TypedDict", "TYPE_CHECKING", "abstractmethod",
@@ -28,6 +28,9 @@ INTERFACE = {
     "peace": ["peaceful_row", "war", "is_war"],
     "following": ["follows", "tree", "against", "is_tree"],
     "splits": ["is_enough", "stuck", "is_stuck", "least_sets", "settles"],
+    "covers": ["more_general", "needless", "cover", "is_cover"],
+    "finding": ["found_rules"],
+    "views": ["is_view", "view_rows", "view_follows", "view_trees", "view_against"],
 }
 
 
@@ -93,6 +96,18 @@ class Language(unittest.TestCase):
                     names = {alias.name for alias in node.names}
                     self.assertTrue(node.module in modules or names <= LIBRARY[node.module], node.module)
 
+    def test_library_calls(self):
+        names = set().union(*LIBRARY.values())
+        for path in FILES:
+            _, module = read(path)
+            called = [node for node in ast.walk(module) if isinstance(node, ast.Call)
+                      and isinstance(node.func, ast.Name) and node.func.id in names]
+            used = [node for node in ast.walk(module) if isinstance(node, ast.Name) and node.id in names]
+            self.assertEqual(len(called), len(used), "such a name is only called")
+            for node in called:
+                self.assertEqual(node.keywords, [])
+                self.assertFalse(any(isinstance(argument, ast.Starred) for argument in node.args), path)
+
     def test_imports_go_one_way(self):
         below = {}
         for path in FILES:
@@ -133,8 +148,11 @@ class Language(unittest.TestCase):
             for node in ast.walk(module):
                 if isinstance(node, ast.stmt):
                     self.assertIsInstance(node, STATEMENTS)
-                if isinstance(node, (ast.FunctionDef, ast.ClassDef)):
+                if isinstance(node, ast.ClassDef):
                     self.assertEqual(node.decorator_list, [])
+                if isinstance(node, ast.FunctionDef):
+                    told = [one.id for one in node.decorator_list]
+                    self.assertIn(told, [[], ["property"]])
                 self.assertNotIsInstance(node, (ast.Yield, ast.YieldFrom, ast.Lambda, ast.Set, ast.SetComp, ast.Div))
 
 

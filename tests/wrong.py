@@ -3,7 +3,8 @@
 from itertools import combinations
 
 from whererules.errors import (
-    InvalidCells, InvalidColumns, InvalidGiven, InvalidNumber, InvalidRow, InvalidRule, InvalidRules, InvalidTable)
+    InvalidCells, InvalidColumns, InvalidGiven, InvalidNumber, InvalidRow, InvalidRule, InvalidRules, InvalidTable,
+    InvalidValue, InvalidView)
 
 from samples import BIG, any_values
 
@@ -33,7 +34,18 @@ WRONG = {
         None, True, 0, "", [], [(0, 1)], ([0, 1],), ((0, 0),), ((0, 2),), ((2, 1),), ((-1, 1),), ((0, 1), (0, 1)),
         ((1, 1), (0, 1)), ((False, 1),), ((0, True),), ((0, 1), (True, 1)), ((0, 1), (0, 2)), (0, 1), ((0,),),
         ((0, 1, 1),), (None,), ((0, -1),), ((0, 1), (1, 1), (1, 1)), ((0, None),), (("0", 1),), ((0, 3),)]),
+    "view": (InvalidView, [
+        None, True, 0, "", (), [((), (0,))], (((), (0,)),) * 4, ((), (0,)), (((), ()),), (((), (0,)), ((), (0, 1))),
+        (((), (0, 0)),), (((), (3,)),), (((), (True,)),), ((((1, 2),), (0,)),), ((((0, None),), (0,)),),
+        ((((0, 1), (0, 1)), (0,)),), ((((2, 1), (0, 1)), (0,)),), (((), [0]),), (([], (0,)),), ([(), (0,)],)]),
+    # For a view that keeps two columns.
+    "view_rule": (InvalidRule, [
+        None, True, 0, "", (), [(), 0, 0], ((), 2, 0), ((), 2, None), (((2, 1),), 0, 1), (((0, None),), 1, 0),
+        (((0, 1),), 0, None), ((), -1, 0), ((), 0, -1), ((), True, 0), ((), 0, False), (((1, 0), (1, 0)), 0, None)]),
 }
+# Other names for the same.
+WRONG["other_rule"] = (InvalidValue, WRONG["rule"][1])
+WRONG["peaceful"] = WRONG["rules"]
 RIGHT = {
     "columns": COLUMNS,
     "rules": ((((0, 1),), 1, 0), (((1, None),), 2, None)),
@@ -43,6 +55,10 @@ RIGHT = {
     "number": 1,
     "given": ((0, 1), (1, None)),
     "cells": ((0, 1), (1, 1)),
+    "view": (((), (0, 2)), (((1, 0),), (1, 0))),
+    "view_rule": (((0, 2),), 1, None),
+    "other_rule": (((0, None),), 2, None),
+    "peaceful": ((((0, 1),), 1, 0), (((1, None),), 2, None)),
     "value": ("clash",),
 }
 

@@ -80,6 +80,11 @@ def table_is_right(columns, value):
     return True
 
 
+def with_item(items, place, item):
+    """The tuple of items with another item in this place."""
+    return items[:place] + (item,) + items[place + 1:]
+
+
 def check_columns(columns):
     """Raises InvalidColumns if the argument is no columns."""
     if not is_columns(columns):
