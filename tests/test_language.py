@@ -31,6 +31,10 @@ INTERFACE = {
     "covers": ["more_general", "needless", "cover", "is_cover"],
     "finding": ["found_rules"],
     "views": ["is_view", "view_rows", "view_follows", "view_trees", "view_against"],
+    "fixes": ["next_steps", "run", "fix"],
+    "starts": ["stop", "least_starts"],
+    "desk": ["Desk"],
+    "checker": ["check"],
 }
 
 

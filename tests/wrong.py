@@ -4,7 +4,7 @@ from itertools import combinations
 
 from whererules.errors import (
     InvalidCells, InvalidColumns, InvalidGiven, InvalidNumber, InvalidRow, InvalidRule, InvalidRules, InvalidTable,
-    InvalidValue, InvalidView)
+    InvalidSettled, InvalidValue, InvalidView)
 
 from samples import BIG, any_values
 
@@ -42,8 +42,12 @@ WRONG = {
     "view_rule": (InvalidRule, [
         None, True, 0, "", (), [(), 0, 0], ((), 2, 0), ((), 2, None), (((2, 1),), 0, 1), (((0, None),), 1, 0),
         (((0, 1),), 0, None), ((), -1, 0), ((), 0, -1), ((), True, 0), ((), 0, False), (((1, 0), (1, 0)), 0, None)]),
+    "settled": (InvalidSettled, [
+        None, True, 0, "", [], [0], (1, 0), (0, 0), (3,), (-1,), (True,), (0, True), (0, 1, 2, 3), ("0",), ((0,),), (None,)]),
+    "row_number": (InvalidNumber, [None, True, False, -1, 2, BIG, "0", "", (0,), [0], ()]),
 }
 # Other names for the same.
+WRONG["master"] = WRONG["sound"] = WRONG["table"]
 WRONG["other_rule"] = (InvalidValue, WRONG["rule"][1])
 WRONG["peaceful"] = WRONG["rules"]
 RIGHT = {
@@ -59,6 +63,10 @@ RIGHT = {
     "view_rule": (((0, 2),), 1, None),
     "other_rule": (((0, None),), 2, None),
     "peaceful": ((((0, 1),), 1, 0), (((1, None),), 2, None)),
+    "settled": (0, 2),
+    "master": ((1, 1, 0), (1, 0, 1)),
+    "sound": ((1, 0, 1), (0, 0, 1)),
+    "row_number": 1,
     "value": ("clash",),
 }
 
