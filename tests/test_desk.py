@@ -10,7 +10,8 @@ from whererules.errors import (
 
 import oracle
 from oracle_desk import Plain, paper_stands
-from samples import BIG, any_values, bends, made_columns, made_row, made_rule, made_value, same
+from samples import (
+    BIG, any_values, bends, left_alone, made_columns, made_row, made_rule, made_value, renewed, same)
 from wrong import assert_raises
 
 COLUMNS = (None, None, (0, 1))
@@ -94,6 +95,8 @@ class Rows(unittest.TestCase):
                 assert_raises(self, InvalidNumber, desk.take, (value,))
                 assert_raises(self, InvalidNumber, desk.change, (value, 0, 0))
                 assert_raises(self, InvalidNumber, desk.change, (value, 9, -1))
+                assert_raises(self, InvalidNumber, desk.change, (value, 2, 2))
+                assert_raises(self, InvalidNumber, desk.change, (value, value, value))
             if not oracle.below(value, 3):
                 assert_raises(self, InvalidNumber, desk.change, (1, value, 0))
                 assert_raises(self, InvalidNumber, desk.change, (1, value, -1))
@@ -479,6 +482,28 @@ class Histories(unittest.TestCase):
                 self.call(desk, plain, *self.made_call(dice, plain))
             for desk, plain, _ in both:
                 self.compare(desk, plain)
+
+    def test_equal_histories(self):
+        columns = (None, (0, 1), None)
+        for seed in range(8):
+            one, other, plain, dice = Desk(columns), Desk(renewed(columns)), Plain(columns), random.Random(seed)
+            for _ in range(60):
+                name, arguments = self.made_call(dice, plain)
+                self.call(one, plain, name, arguments)
+                left_alone(getattr(other, name), list(renewed(arguments)))
+                self.assertTrue(same(shown(one), shown(other)))
+
+    def test_arguments_are_left_alone(self):
+        columns = (None, (0, 1), None)
+        desk, plain, dice = Desk(columns), Plain(columns), random.Random(3)
+        for _ in range(80):
+            name, arguments = self.made_call(dice, plain)
+            self.assertTrue(left_alone(getattr(desk, name), list(arguments))[1])
+        for value in any_values()[:-1]:
+            for name in ["put", "take", "add_rule", "drop_rule", "ask", "paper", "stands", "back"]:
+                self.assertTrue(left_alone(getattr(desk, name), [value])[1], name)
+            for arguments in [[value, 0, 0], [0, value, 0], [0, 0, value], [value, value, value]]:
+                self.assertTrue(left_alone(desk.change, arguments)[1])
 
     def test_what_was_returned_stays(self):
         columns = (None, (0, 1), None)
