@@ -167,6 +167,11 @@ ASKED = [
     ((None,), (), ((((0, BIG),), (0,)), ((), (0,))), ((), 0, None), False),
     ((None, None), ((((0, None),), 1, None),), ((((0, 1), (1, 2)), (0,)), ((), (0,))), ((), 0, None), False),
     ((None,), (), ((((0, BIG),), (0,)),), ((), 0, None), True),
+    # and greater than those of closed columns, which the view may put beside open ones
+    ((None, (1,)), (((), 0, None),), (((), (0,)), ((), (1,))), ((), 0, None), False),
+    ((None, (1, 2), None), ((((1, None),), 0, None),), ((((1, 1),), (0, 1)), ((), (1, 0)), ((), (1, 2))),
+     (((1, None),), 0, None), False),
+    ((None, (BIG,)), (((), 0, None),), (((), (0,)), ((), (1,))), ((), 0, None), False),
 ]
 
 
@@ -208,6 +213,19 @@ class Following(unittest.TestCase):
                 self.assertFalse(oracle_views.fails_somewhere(columns, rules, view, rule), (columns, rules, view, rule))
                 asked += 1
         self.assertGreater(asked, 80)
+
+    def test_closed_values_next_to_those_made_up(self):
+        asked = 0
+        for seed in range(2000):
+            dice = random.Random(seed)
+            columns = dice.choice([(None, None), (None, None, None), (None,)])
+            rules = tuple([rule for rule in made_rules(dice, columns, 2) if rule[2] is None])
+            apart = dice.randint(1, 12)
+            columns += (tuple(range(apart, apart + dice.randint(1, 3))),)
+            view = tuple([((), tuple(dice.sample(range(len(columns)), len(columns) - 1))) for _ in range(2)])
+            rule = made_rule(dice, (None,) * len(view[0][1]))
+            asked += not self.judge(columns, rules, view, rule)
+        self.assertGreater(asked, 1000)
 
     def test_the_view_of_all(self):
         for seed in range(150):

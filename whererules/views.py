@@ -43,7 +43,7 @@ def view_against(columns, rules, view, rule):
     _, left = prove_view(columns, rules, view, rule)
     if left is None:
         return None
-    return filled_rows(left, fresh_over_view(rules, view, rule))
+    return filled_rows(left, fresh_over_view(columns, rules, view, rule))
 
 
 def view_is_right(columns, value):
@@ -152,7 +152,12 @@ def view_goal(columns, view, rule, branches):
     return ("equal", cells[0], cells[1])
 
 
-def fresh_over_view(rules, view, rule):
-    """A value that is greater than all values in the rules, the rule and the view."""
+def fresh_over_view(columns, rules, view, rule):
+    """A value that is greater than all values in the closed columns, the rules, the rule and the view."""
     chosen_rules = tuple([(chosen, 0, None) for chosen, _ in view])
-    return fresh_value(rules + (rule,) + chosen_rules)
+    fresh = fresh_value(rules + (rule,) + chosen_rules)
+    # The view may put a cell of an open column beside one of a closed column.
+    for column in columns:
+        if column is not None:
+            fresh = max(fresh, column[-1] + 1)
+    return fresh
