@@ -137,6 +137,30 @@ def made_table(dice, columns, most):
     return tuple([made_row(dice, columns) for _ in range(dice.randint(0, most))])
 
 
+def made_draft(dice, columns, most, share=None):
+    """A draft of the columns, with at most so many rows, and None in such a share of its cells."""
+    share = dice.choice([0.3, 0.6, 0.9]) if share is None else share
+    rows, gaps = [], 0
+    for _ in range(dice.randint(0, most)):
+        row = []
+        for column in range(len(columns)):
+            gap = dice.random() < share and (columns[column] is None or gaps < 6)
+            row.append(None if gap else made_value(dice, columns, column))
+            gaps += gap and columns[column] is not None
+        rows.append(tuple(row))
+    return tuple(rows)
+
+
+def made_small(dice, columns, cells=9):
+    """A small table with at most so many cells."""
+    return made_table(dice, columns, min(3, cells // len(columns)))
+
+
+def made_some(dice, rows, share=0.5):
+    """A set of cells of the rows."""
+    return tuple([(i, j) for i, row in enumerate(rows) for j in range(len(row)) if dice.random() < share])
+
+
 def made_view(dice, columns, most=3):
     """A view of the columns."""
     many = dice.randint(1, len(columns))

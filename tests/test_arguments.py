@@ -3,9 +3,12 @@
 import random
 import unittest
 
+from whererules.blames import blames, can_stand, least_corrections
 from whererules.breaks import breaks, count_tree, fewest_out, holds, is_count_tree
 from whererules.columns import is_columns, is_row, is_table
 from whererules.covers import cover, is_cover, more_general, needless
+from whererules.drafts import draft_war, filling, forced_cells, is_draft, is_draft_war
+from whererules.errors import AtWar
 from whererules.finding import found_rules
 from whererules.fixes import fix, next_steps, run
 from whererules.following import against, follows, is_tree, tree
@@ -16,10 +19,12 @@ from whererules.starts import least_starts, stop
 from whererules.views import is_view, view_against, view_follows, view_rows, view_trees
 
 import oracle
+import oracle_drafts
 import oracle_fixes
 import oracle_views
 from samples import (
-    left_alone, made_columns, made_rule, made_rules, made_row, made_table, made_view, renewed, same)
+    left_alone, made_columns, made_draft, made_rule, made_rules, made_row, made_small, made_some, made_table, made_view,
+    renewed, same)
 from wrong import COLUMNS, RIGHT, WRONG, check_any_wrong, check_first_wrong
 
 FUNCTIONS = [
@@ -61,8 +66,18 @@ FUNCTIONS = [
     (fix, ["columns", "rules", "master", "row", "settled"]),
     (stop, ["columns", "peaceful", "sound", "row_number", "settled"]),
     (least_starts, ["columns", "peaceful", "sound", "row_number"]),
+    (is_draft, ["columns", "value"]),
+    (filling, ["columns", "rules", "draft"]),
+    (draft_war, ["columns", "rules", "draft"]),
+    (is_draft_war, ["columns", "rules", "draft", "value"]),
+    (forced_cells, ["columns", "rules", "draft"]),
+    (can_stand, ["columns", "rules", "small", "some"]),
+    (blames, ["columns", "rules", "small"]),
+    (least_corrections, ["columns", "rules", "small"]),
 ]
-LISTS = [breaks, least_sets, needless, found_rules, view_trees, next_steps, run, stop, least_starts]
+LISTS = [
+    breaks, least_sets, needless, found_rules, view_trees, next_steps, run, stop, least_starts, blames,
+    least_corrections]
 
 
 def is_right(name, value):
@@ -77,11 +92,14 @@ def is_right(name, value):
         "rules": oracle.right_rules, "peaceful": oracle.right_rules, "rule": oracle.right_rule,
         "other_rule": oracle.right_rule, "row": oracle.right_row, "table": oracle.right_table,
         "given": oracle.right_given, "view": oracle_views.right_view, "master": oracle.right_table,
-        "sound": oracle.right_table, "settled": oracle_fixes.right_settled}
+        "sound": oracle.right_table, "settled": oracle_fixes.right_settled, "draft": oracle_drafts.right_draft,
+        "small": oracle_drafts.right_small}
     if name == "row_number":
         return oracle.below(value, len(RIGHT["sound"]))
     if name == "view_rule":
         return oracle_views.right_view_rule(RIGHT["view"], value)
+    if name == "some":
+        return oracle_drafts.right_some(RIGHT["small"], value)
     return judges[name](COLUMNS, value)
 
 
@@ -111,6 +129,8 @@ def made_arguments(dice, seed, names):
     rule, view = made_rule(dice, columns), made_view(dice, columns)
     peaceful = made_peaceful(dice, columns)
     sound = made_sound(dice, columns, peaceful)
+    more = random.Random(seed + 1)
+    small = made_small(more, columns)
     made = {
         "view": view, "view_rule": made_rule(dice, (None,) * len(view[0][1])), "other_rule": made_rule(dice, columns),
         "peaceful": peaceful, "sound": sound, "row_number": dice.randrange(len(sound)),
@@ -118,6 +138,7 @@ def made_arguments(dice, seed, names):
         "columns": columns, "rules": made_rules(dice, columns, 4), "rule": rule, "row": made_row(dice, columns),
         "table": made_table(dice, columns, 5), "number": dice.randint(1, 8),
         "given": made_rule(dice, columns)[0], "cells": dice.choice(oracle.subsets(oracle.closed_cells(columns, rule))),
+        "draft": made_draft(more, columns, 8), "small": small, "some": made_some(more, small),
         "value": dice.choice([("clash",), ("goal",), ("step", 0, 0, ("goal",)), (), rule, columns, [(0, 1)]]),
     }
     return [made[name] for name in names]
@@ -157,7 +178,7 @@ class Unchanged(unittest.TestCase):
                 arguments = made_arguments(random.Random(seed), seed, names)
                 told, unchanged = left_alone(function, arguments)
                 self.assertTrue(unchanged, function)
-                self.assertNotIsInstance(told, Exception)
+                self.assertFalse(isinstance(told, Exception) and not isinstance(told, AtWar))
 
     def test_wrong_arguments(self):
         for function, names in FUNCTIONS:
@@ -168,34 +189,42 @@ class Unchanged(unittest.TestCase):
                     self.assertTrue(left_alone(function, arguments)[1], function)
 
 
+def told_by(function, arguments):
+    """What the function returns, or the tree of the war that it raises."""
+    try:
+        return function(*arguments)
+    except AtWar as error:
+        return ("at war", error.tree)
+
+
 class EqualResults(unittest.TestCase):
     def test_equal_arguments(self):
         for function, names in FUNCTIONS:
             for seed in range(40):
                 arguments = made_arguments(random.Random(seed), seed, names)
-                self.assertTrue(same(function(*arguments), function(*renewed(arguments))), function)
+                self.assertTrue(same(told_by(function, arguments), told_by(function, renewed(arguments))), function)
 
     def test_results_in_between_change_nothing(self):
         made = []
         for function, names in FUNCTIONS:
             for seed in range(10):
                 arguments = made_arguments(random.Random(seed), seed, names)
-                made.append((function, arguments, repr(function(*arguments))))
+                made.append((function, arguments, repr(told_by(function, arguments))))
         for function, arguments, told in reversed(made):
-            self.assertEqual(repr(function(*arguments)), told)
+            self.assertEqual(repr(told_by(function, arguments)), told)
 
     def test_lists_are_new(self):
         several = dict.fromkeys(LISTS, 0)
         for function, names in FUNCTIONS:
             for seed in range(40):
                 arguments = made_arguments(random.Random(seed), seed, names)
-                first, second = function(*arguments), function(*arguments)
+                first, second = told_by(function, arguments), told_by(function, arguments)
                 self.assertFalse(isinstance(first, list) and function not in LISTS)
                 if function in LISTS and first is not None:
                     self.assertIs(first.__class__, list)
                     self.assertIsNot(first, second)
                     first.append("more")
-                    self.assertEqual(second, function(*arguments))
+                    self.assertEqual(second, told_by(function, arguments))
                     several[function] += len(second) > 0
         self.assertTrue(all(many > 1 for many in several.values()), several)
 

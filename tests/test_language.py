@@ -35,6 +35,9 @@ INTERFACE = {
     "starts": ["stop", "least_starts"],
     "desk": ["Desk"],
     "checker": ["check"],
+    "faults": ["InvalidDraft", "InvalidCosts", "NotARecord"],
+    "drafts": ["is_draft", "filling", "draft_war", "is_draft_war", "forced_cells"],
+    "blames": ["can_stand", "blames", "least_corrections"],
 }
 
 

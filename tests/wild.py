@@ -1,6 +1,7 @@
 """Trees that are grown at random, right or not, with steps, joins and splits that need not be of use."""
 
 import oracle
+import oracle_drafts
 
 
 def wild_tree(dice, rules, known, goal, depth):
@@ -43,3 +44,36 @@ def spoiled(dice, head):
     """The head with one number exchanged."""
     place = dice.randrange(1, len(head))
     return head[:place] + (head[place] + dice.choice([1, -1]),) + head[place + 1:]
+
+
+def wild_draft_tree(dice, rules, told, goal, depth):
+    """A tree of a draft that is right as often as not."""
+    if told.clash():
+        return ("clash",) if dice.random() < 0.97 else ("goal",)
+    if goal(told) and dice.random() < 0.7:
+        return ("goal",)
+    heads = draft_heads(rules, told)
+    if not heads or depth == 0:
+        return dice.choice([("goal",), ("clash",)])
+    head = dice.choice(heads)
+    right = head if dice.random() < 0.98 else spoiled(dice, head)
+    if head[0] != "split":
+        more, _ = oracle_drafts.behind(rules, told, head)
+        return right + (wild_draft_tree(dice, rules, more, goal, depth - 1),)
+    trees = []
+    for value in told.columns[head[2]]:
+        more, _ = oracle_drafts.behind(rules, told, head + (value,))
+        trees.append(wild_draft_tree(dice, rules, more, goal, depth - 1))
+    return right + (tuple(trees),)
+
+
+def draft_heads(rules, told):
+    """The heads of all steps, joins and splits that are possible; those that are of use more than once."""
+    rows = range(told.rows)
+    heads = [("step", k, row) for k in range(len(rules)) for row in rows
+             if oracle_drafts.step_fits(rules, told, k, row)]
+    heads += [("join", k, one, other) for k in range(len(rules)) for one in rows for other in rows
+              if oracle_drafts.join_fits(rules, told, k, one, other)]
+    useful = [head for head in heads if oracle_drafts.behind(rules, told, head)[1]]
+    closed = [("split", row, column) for row in rows for column, values in enumerate(told.columns) if values is not None]
+    return heads + useful * 9 + closed

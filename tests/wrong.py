@@ -6,6 +6,8 @@ from whererules.errors import (
     InvalidCells, InvalidColumns, InvalidGiven, InvalidNumber, InvalidRow, InvalidRule, InvalidRules, InvalidTable,
     InvalidSettled, InvalidValue, InvalidView)
 
+from whererules.faults import InvalidDraft
+
 from samples import BIG, any_values
 
 # All for the columns (None, (0, 1), None).
@@ -44,6 +46,16 @@ WRONG = {
         (((0, 1),), 0, None), ((), -1, 0), ((), 0, -1), ((), True, 0), ((), 0, False), (((1, 0), (1, 0)), 0, None)]),
     "settled": (InvalidSettled, [
         None, True, 0, "", [], [0], (1, 0), (0, 0), (3,), (-1,), (True,), (0, True), (0, 1, 2, 3), ("0",), ((0,),), (None,)]),
+    "draft": (InvalidDraft, [
+        None, True, 0, "", [], [(0, 0, 0)], ((0, None, 0),) * 7, ((0, 0, 0),) * 9, (0, 0, 0), ((0, None),), ((0, 2, 0),),
+        ((None, 0, 0), [0, 0, 0]), ((None, False, 0),), ((0, 0, -1),), (None,), ((None, "", None),), ((None,) * 4,)]),
+    "small": (InvalidTable, [
+        None, True, 0, "", [], [(0, 0, 0)], ((0, 0, 0),) * 4, (0, 0, 0), ((0, 0),), ((0, 0, 0), [0, 0, 0]),
+        ((0, 2, 0),), ((0, False, 0),), ((0, 0, -1),), (None,), ((0, None, 0),)]),
+    # For a small table of two rows.
+    "some": (InvalidCells, [
+        None, True, 0, "", [], [(0, 1)], ([0, 1],), ((2, 0),), ((0, 3),), ((-1, 1),), ((0, 1), (0, 1)),
+        ((1, 1), (0, 1)), ((False, 1),), ((0, True),), ((0, 1), (True, 1)), (0, 1), ((0,),), ((0, 1, 1),), (None,)]),
     "row_number": (InvalidNumber, [None, True, False, -1, 2, BIG, "0", "", (0,), [0], ()]),
 }
 # Other names for the same.
@@ -67,6 +79,9 @@ RIGHT = {
     "master": ((1, 1, 0), (1, 0, 1)),
     "sound": ((1, 0, 1), (0, 0, 1)),
     "row_number": 1,
+    "draft": ((0, None, 1), (None, 1, None)),
+    "small": ((1, 1, 0), (1, 0, 1)),
+    "some": ((0, 1), (1, 0)),
     "value": ("clash",),
 }
 

@@ -37,6 +37,12 @@ def given_case(columns, given, rows):
     return case
 
 
+def draft_case(columns, draft):
+    """The case of a draft: the values that it has are known."""
+    known = [value for row in draft for value in row]
+    return Case(columns, len(draft), known, list(range(len(known))), False)
+
+
 def cell_at(case, row, column):
     """The number of the cell of a row in a column."""
     return row * len(case.columns) + column

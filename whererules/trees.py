@@ -1,11 +1,17 @@
 """Trees that are right in a case: how they are found, and how they are judged.
 
 A goal is None where there is none, ("value", cell, value) or ("equal", cell, other cell).
+
+In the tree of a case of one row or two a join has no rows; in the tree of a draft it names them.
 """
 
 from whererules.cases import are_equal, cell_at, given_case, split_cases, with_equal, with_value
 from whererules.columns import is_number
 from whererules.rules import is_value_rule
+
+# The lengths of the two kinds of joins.
+JOIN = 3
+NAMED_JOIN = 5
 
 
 def rule_rows(rule):
@@ -86,7 +92,15 @@ def after_move(rules, case, move):
     _, column, want = rules[move[1]]
     if move[0] == "step":
         return with_value(case, cell_at(case, move[2], column), want)
-    return with_equal(case, cell_at(case, 0, column), cell_at(case, 1, column))
+    one, other = rows_of_join(move)
+    return with_equal(case, cell_at(case, one, column), cell_at(case, other, column))
+
+
+def rows_of_join(tree):
+    """The two rows of a join, told by its whole tree, or by its head where it has no rows."""
+    if len(tree) == NAMED_JOIN:
+        return tree[2:4]
+    return 0, 1
 
 
 def prove(rules, case, goal, cells):
@@ -123,20 +137,20 @@ def prove_split(rules, case, goal, cells, cell):
     return ("split", row, column, tuple(trees)), None
 
 
-def tree_is_right(rules, case, goal, value):
-    """True if the value is a tree that is right in the case."""
+def tree_is_right(rules, case, goal, value, join=JOIN):
+    """True if the value is a tree with joins of this kind that is right in the case."""
     # A list of what is still to be judged, as values may be deeper than calls should be.
     waiting = [(case, value)]
     while len(waiting) > 0:
         here, told = waiting.pop()
-        below = judge_head(rules, here, goal, told)
+        below = judge_head(rules, here, goal, told, join)
         if below is None:
             return False
         waiting.extend(below)
     return True
 
 
-def judge_head(rules, case, goal, value):
+def judge_head(rules, case, goal, value, join):
     """A list of tuples (case, tree) all of which must be right for the value to be right.
 
     None if the value is wrong whatever stands below its head.
@@ -147,7 +161,7 @@ def judge_head(rules, case, goal, value):
         return [] if is_goal_known(case, goal) else None
     if not isinstance(value, tuple):
         return None
-    if is_step(rules, case, value) or is_join(rules, case, value):
+    if is_step(rules, case, value) or is_join(rules, case, value, join):
         return [(after_move(rules, case, value), value[-1])]
     if is_split(case, value):
         return list(zip(split_cases(case, value[1], value[2]), value[3]))
@@ -163,11 +177,14 @@ def is_step(rules, case, value):
     return can_step(rules[value[1]], case, value[2])
 
 
-def is_join(rules, case, value):
-    """True if the tuple has the head of a join that is possible in the case."""
-    if len(value) != 3 or value[0] != "join" or case.rows != 2:
+def is_join(rules, case, value, join):
+    """True if the tuple has the head of a join of this kind that is possible in the case."""
+    if len(value) != join or value[0] != "join" or not is_number(value[1], len(rules)):
         return False
-    return is_number(value[1], len(rules)) and can_join(rules[value[1]], case, 0, 1)
+    one, other = rows_of_join(value)
+    if not is_number(one, case.rows) or not is_number(other, case.rows) or not one < other:
+        return False
+    return can_join(rules[value[1]], case, one, other)
 
 
 def is_split(case, value):
