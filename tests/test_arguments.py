@@ -9,10 +9,13 @@ from whererules.columns import is_columns, is_row, is_table
 from whererules.covers import cover, is_cover, more_general, needless
 from whererules.drafts import draft_war, filling, forced_cells, is_draft, is_draft_war
 from whererules.errors import AtWar
+from whererules.fates import fates
 from whererules.finding import found_rules
 from whererules.fixes import fix, next_steps, run
 from whererules.following import against, follows, is_tree, tree
+from whererules.mends import cheaper_mend, is_price_tree, mend, price, price_tree
 from whererules.peace import is_war, peaceful_row, war
+from whererules.records import blame_record, correction_record, fate_record, forced_record, lists_record
 from whererules.rules import is_rule, is_rules, matches
 from whererules.splits import is_enough, is_stuck, least_sets, settles, stuck
 from whererules.starts import least_starts, stop
@@ -21,6 +24,7 @@ from whererules.views import is_view, view_against, view_follows, view_rows, vie
 import oracle
 import oracle_drafts
 import oracle_fixes
+import oracle_mends
 import oracle_views
 from samples import (
     left_alone, made_columns, made_draft, made_rule, made_rules, made_row, made_small, made_some, made_table, made_view,
@@ -74,6 +78,17 @@ FUNCTIONS = [
     (can_stand, ["columns", "rules", "small", "some"]),
     (blames, ["columns", "rules", "small"]),
     (least_corrections, ["columns", "rules", "small"]),
+    (price, ["columns", "rules", "small", "costs", "pinned"]),
+    (mend, ["columns", "rules", "small", "costs", "pinned"]),
+    (price_tree, ["columns", "rules", "small", "costs", "pinned", "waived", "integer"]),
+    (cheaper_mend, ["columns", "rules", "small", "costs", "pinned", "waived", "integer"]),
+    (is_price_tree, ["columns", "rules", "small", "costs", "pinned", "waived", "integer", "value"]),
+    (fates, ["columns", "rules", "small", "costs", "pinned"]),
+    (forced_record, ["columns", "rules", "draft", "draft_cell"]),
+    (lists_record, ["columns", "rules", "small"]),
+    (blame_record, ["columns", "rules", "small", "some"]),
+    (correction_record, ["columns", "rules", "small", "some"]),
+    (fate_record, ["columns", "rules", "small", "costs", "pinned", "small_cell"]),
 ]
 LISTS = [
     breaks, least_sets, needless, found_rules, view_trees, next_steps, run, stop, least_starts, blames,
@@ -93,13 +108,17 @@ def is_right(name, value):
         "other_rule": oracle.right_rule, "row": oracle.right_row, "table": oracle.right_table,
         "given": oracle.right_given, "view": oracle_views.right_view, "master": oracle.right_table,
         "sound": oracle.right_table, "settled": oracle_fixes.right_settled, "draft": oracle_drafts.right_draft,
-        "small": oracle_drafts.right_small}
+        "small": oracle_drafts.right_small, "costs": oracle_mends.right_costs}
     if name == "row_number":
         return oracle.below(value, len(RIGHT["sound"]))
     if name == "view_rule":
         return oracle_views.right_view_rule(RIGHT["view"], value)
-    if name == "some":
+    if name in ("some", "pinned", "waived"):
         return oracle_drafts.right_some(RIGHT["small"], value)
+    if name in ("draft_cell", "small_cell"):
+        return oracle_drafts.right_cell(RIGHT[name[:5]], value)
+    if name == "integer":
+        return oracle.integer(value)
     return judges[name](COLUMNS, value)
 
 
@@ -130,7 +149,10 @@ def made_arguments(dice, seed, names):
     peaceful = made_peaceful(dice, columns)
     sound = made_sound(dice, columns, peaceful)
     more = random.Random(seed + 1)
-    small = made_small(more, columns)
+    # A row at least, so that there is a cell.
+    row = (made_row(more, columns),)
+    small, draft = made_small(more, columns) or row, made_draft(more, columns, 8) or row
+    pinned = made_some(more, small, 0.3)
     made = {
         "view": view, "view_rule": made_rule(dice, (None,) * len(view[0][1])), "other_rule": made_rule(dice, columns),
         "peaceful": peaceful, "sound": sound, "row_number": dice.randrange(len(sound)),
@@ -138,7 +160,11 @@ def made_arguments(dice, seed, names):
         "columns": columns, "rules": made_rules(dice, columns, 4), "rule": rule, "row": made_row(dice, columns),
         "table": made_table(dice, columns, 5), "number": dice.randint(1, 8),
         "given": made_rule(dice, columns)[0], "cells": dice.choice(oracle.subsets(oracle.closed_cells(columns, rule))),
-        "draft": made_draft(more, columns, 8), "small": small, "some": made_some(more, small),
+        "draft": draft, "small": small, "some": made_some(more, small), "pinned": pinned,
+        "waived": tuple([cell for cell in made_some(more, small) if cell not in pinned]),
+        "draft_cell": more.choice(oracle_drafts.all_cells(draft)),
+        "small_cell": more.choice(oracle_drafts.all_cells(small)),
+        "integer": more.choice([-1, 0, 1, 2, 5, 9, 500]), "costs": tuple([more.randint(1, 9) for _ in columns]),
         "value": dice.choice([("clash",), ("goal",), ("step", 0, 0, ("goal",)), (), rule, columns, [(0, 1)]]),
     }
     return [made[name] for name in names]

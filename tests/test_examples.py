@@ -24,7 +24,7 @@ class Examples(unittest.TestCase):
                 self.assertEqual(repr(eval(code[-1], names)), repr(ast.literal_eval(shown)))
 
     def test_there_are_examples(self):
-        self.assertEqual(len(list(examples())), 28)
+        self.assertEqual(len(list(examples())), 32)
 
 
 if __name__ == "__main__":

@@ -10,7 +10,8 @@ FILES = sorted(FOLDER.glob("*.py"))
 LIBRARY = {"itertools": {"combinations", "permutations", "product"}, "math": {"gcd", "lcm", "isqrt", "comb"}}
 BUILTINS = {
     "len", "range", "enumerate", "zip", "min", "max", "sum", "abs", "sorted", "reversed", "int", "str", "bool", "list",
-    "tuple", "dict", "isinstance", "any", "all", "divmod", "super", "property", "ValueError"}
+    "tuple", "dict", "isinstance", "any", "all", "divmod", "super", "property", "set",
+    "ValueError", "KeyError"}
 BARRED_WORDS = {
     "type", "typing", "typing_extensions", "enum", "Enum", "IntEnum", "StrEnum", "Flag", "IntFlag", "Generic",
     "Protocol", "ABC", "ABCMeta", "namedtuple", "NamedTuple", "TypedDict", "TYPE_CHECKING", "abstractmethod",
@@ -38,6 +39,10 @@ INTERFACE = {
     "faults": ["InvalidDraft", "InvalidCosts", "NotARecord"],
     "drafts": ["is_draft", "filling", "draft_war", "is_draft_war", "forced_cells"],
     "blames": ["can_stand", "blames", "least_corrections"],
+    "mends": ["price", "mend", "price_tree", "cheaper_mend", "is_price_tree"],
+    "fates": ["fates"],
+    "mender": ["Mender"],
+    "records": ["forced_record", "lists_record", "blame_record", "correction_record", "fate_record", "judge"],
 }
 
 

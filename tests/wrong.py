@@ -6,7 +6,7 @@ from whererules.errors import (
     InvalidCells, InvalidColumns, InvalidGiven, InvalidNumber, InvalidRow, InvalidRule, InvalidRules, InvalidTable,
     InvalidSettled, InvalidValue, InvalidView)
 
-from whererules.faults import InvalidDraft
+from whererules.faults import InvalidCosts, InvalidDraft
 
 from samples import BIG, any_values
 
@@ -52,6 +52,9 @@ WRONG = {
     "small": (InvalidTable, [
         None, True, 0, "", [], [(0, 0, 0)], ((0, 0, 0),) * 4, (0, 0, 0), ((0, 0),), ((0, 0, 0), [0, 0, 0]),
         ((0, 2, 0),), ((0, False, 0),), ((0, 0, -1),), (None,), ((0, None, 0),)]),
+    "costs": (InvalidCosts, [
+        None, True, 0, "", (), [1, 1, 1], (1, 1), (1, 1, 1, 1), (0, 1, 1), (1, 10, 1), (1, 1, -1), (1, True, 1),
+        (1, None, 1), (1, "1", 1), (1, (1,), 1), ((1, 1, 1),)]),
     # For a small table of two rows.
     "some": (InvalidCells, [
         None, True, 0, "", [], [(0, 1)], ([0, 1],), ((2, 0),), ((0, 3),), ((-1, 1),), ((0, 1), (0, 1)),
@@ -62,6 +65,12 @@ WRONG = {
 WRONG["master"] = WRONG["sound"] = WRONG["table"]
 WRONG["other_rule"] = (InvalidValue, WRONG["rule"][1])
 WRONG["peaceful"] = WRONG["rules"]
+WRONG["pinned"] = WRONG["waived"] = WRONG["some"]
+WRONG["integer"] = (InvalidNumber, [None, True, False, "1", "", (1,), [1], ()])
+# For the draft and for the small table.
+WRONG["draft_cell"] = WRONG["small_cell"] = (InvalidCells, [
+    None, True, 0, "", (), [0, 1], (0,), (0, 1, 1), (2, 0), (0, 3), (-1, 0), (0, -1), (True, 0), (0, False), (None, 0),
+    ((0, 1),), ("0", 1)])
 RIGHT = {
     "columns": COLUMNS,
     "rules": ((((0, 1),), 1, 0), (((1, None),), 2, None)),
@@ -81,7 +90,13 @@ RIGHT = {
     "row_number": 1,
     "draft": ((0, None, 1), (None, 1, None)),
     "small": ((1, 1, 0), (1, 0, 1)),
+    "costs": (1, 9, 2),
     "some": ((0, 1), (1, 0)),
+    "pinned": ((0, 0),),
+    "waived": ((0, 1), (1, 2)),
+    "integer": 2,
+    "draft_cell": (1, 0),
+    "small_cell": (1, 2),
     "value": ("clash",),
 }
 

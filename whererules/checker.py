@@ -6,6 +6,7 @@ from whererules.columns import check_columns, is_integer, row_is_right, table_is
 from whererules.covers import all_follow, are_most_general, check_peace, needless_rules
 from whererules.errors import NotACertificate
 from whererules.fixes import guard_is_right, possible_steps, steps_end
+from whererules.forms import has_form, verdict
 from whererules.rules import check_rules, rule_is_right, rules_are_right
 from whererules.splits import cells_are_right, is_column_set, stand_is_stuck
 from whererules.trees import rule_case, rule_goal, rule_rows, tree_is_right
@@ -13,25 +14,15 @@ from whererules.trees import rule_case, rule_goal, rule_rows, tree_is_right
 
 def check(certificate):
     """("right",), or ("wrong", k) with the number of the first condition that does not hold."""
-    check_form(certificate)
+    if not has_form(dict(LENGTHS), certificate):
+        raise NotACertificate("this is no tuple of one of the forms")
     form, columns, rules = certificate[:3]
     check_columns(columns)
     check_rules(columns, rules)
     if form == "cover":
         check_peace(columns, rules)
     judge = JUDGES[form]
-    wrong = judge(columns, rules, certificate[3:])
-    if wrong is None:
-        return ("right",)
-    return ("wrong", wrong)
-
-
-def check_form(certificate):
-    """Raises NotACertificate if the argument is not a tuple of one of the forms."""
-    if not isinstance(certificate, tuple) or len(certificate) == 0 or not isinstance(certificate[0], str):
-        raise NotACertificate("this is no tuple with the name of a form")
-    if certificate[0] not in LENGTHS or len(certificate) != LENGTHS[certificate[0]]:
-        raise NotACertificate("there is no such form of this length")
+    return verdict(judge(columns, rules, certificate[3:]))
 
 
 # Each judge gets the entries behind the rules, and returns the number of the first condition
