@@ -139,7 +139,14 @@ class FillingOrWar(unittest.TestCase):
                  ((1, None, 5), (1, 8, None), (2, 8, 6)), False),
                 ((None,) * 3, ((((0, None),), 1, None), (((1, None),), 2, None)),
                  ((1, None, 5), (1, 8, None), (2, 9, 6)), True),
-                # seven different rows of six that are possible
+                # a value that comes over two joins, against one that is there: in either order of the rows
+                ((None,) * 4, tuple([(((k, None),), 1, None) for k in (0, 2, 3)]),
+                 ((None, 8, None, 9), (1, 5, None, None), (1, None, 2, None), (None, None, 2, 9)), False),
+                ((None,) * 4, tuple([(((k, None),), 1, None) for k in (0, 2, 3)]),
+                 ((None, None, 2, 9), (1, None, 2, None), (1, 5, None, None), (None, 8, None, 9)), False),
+                ((None,) * 4, tuple([(((k, None),), 1, None) for k in (0, 2, 3)]),
+                 ((None, None, 2, 9), (1, None, 2, None), (1, 5, None, None), (None, None, None, 9)), True),
+                # six pairs of values for the rows, which are all different
                 (((0, 1, 2), (0, 1), None), ((((0, None), (1, None)), 2, None),),
                  ((None, 0, 0), (None, 0, 1), (None, 0, 2), (None, 1, 3), (None, 1, 4), (None, 1, 5)), True),
                 (((0, 1, 2), (0, 1), None), ((((0, None), (1, None)), 2, None),),
@@ -170,6 +177,35 @@ class FillingOrWar(unittest.TestCase):
             self.assertIs(self.judge(columns, rules, draft), right)
             told[right] += 1
         self.assertGreater(min(told), 100)
+
+    def test_chains(self):
+        """Equal cells over many rows, whose values are to be found far away."""
+        told = [0, 0]
+        for seed in range(1500):
+            dice = random.Random(seed)
+            columns = (None,) * 3 + dice.choice([(None,), ((0, 1),)])
+            rules = []
+            for _ in range(8):
+                column, *given = dice.sample(range(4), dice.choice([2, 2, 3]))
+                rules.append((tuple([(place, None) for place in sorted(given)]), column, None))
+            rows = [tuple([dice.randrange(2) if dice.random() < 0.4 else None for _ in range(4)]) for _ in range(8)]
+            draft = tuple(rows[:dice.randint(3, 8)])
+            if right_draft(columns, draft):
+                told[self.judge(columns, tuple(rules), draft)] += 1
+        self.assertGreater(min(told), 200)
+
+    def test_no_more_than_needed(self):
+        """The document does not ask for it, but no war has a step, a join or a split that it can do without."""
+        rules = RULES + (((), 1, 7), (((1, 7),), 0, 44), (((0, 45),), 1, None))
+        for draft in [((44, 7, 0),), ((None, None, None), (44, None, 0)), ((45, 7, None), (45, None, None), (44, 7, 0))]:
+            row = len(draft) - 1
+            self.assertEqual(draft_war(COLUMNS, rules[:1] + rules[2:3], draft), ("step", 0, row, ("clash",)))
+        # No split of the other closed column.
+        columns, rules = ((0, 1), None, (0, 1)), ((((2, 0),), 1, 7), (((2, 1),), 1, 6), (((0, 1),), 1, 8))
+        for draft in [((None, 8, None),), ((None, None, None), (None, 8, None))]:
+            row = len(draft) - 1
+            parts = (("step", 0, row, ("clash",)), ("step", 1, row, ("clash",)))
+            self.assertEqual(draft_war(columns, rules, draft), ("split", row, 2, parts))
 
     def test_great_values(self):
         for great in (BIG, 10 ** 60):
