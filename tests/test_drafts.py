@@ -195,7 +195,7 @@ class FillingOrWar(unittest.TestCase):
         self.assertGreater(min(told), 200)
 
     def test_no_more_than_needed(self):
-        """The document does not ask for it, but no war has a step, a join or a split that it can do without."""
+        """The document does not ask for it, but steps, joins and splits from which no clash comes are left out."""
         rules = RULES + (((), 1, 7), (((1, 7),), 0, 44), (((0, 45),), 1, None))
         for draft in [((44, 7, 0),), ((None, None, None), (44, None, 0)), ((45, 7, None), (45, None, None), (44, 7, 0))]:
             row = len(draft) - 1

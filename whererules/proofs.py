@@ -1,4 +1,4 @@
-"""Brisk trees of drafts: wars and forces, with no step, join or split that they can do without.
+"""Brisk trees of drafts: wars and forces, without steps, joins and splits from which nothing in them comes.
 
 A question is a tuple (columns, rules, goal). The goal is None for wars, and (cell, value) for
 forces, with the number of the cell. How cells, grids and facts are told stands in grids.
